@@ -1,0 +1,1 @@
+"""Biddingmoves: games in which each move is bought."""

@@ -173,7 +173,7 @@ class Web:
     def _what(self, place):
         if not self._has(place):
             raise UnknownPlace(place)
-        return [pair[1] for pair in self._rows if pair[0] == place][0]
+        return dict(self._rows)[place]
 
     def __eq__(self, other):
         return type(other) is Web and self._rows == other._rows

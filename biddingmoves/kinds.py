@@ -1,4 +1,4 @@
-"""What a value is: an integer, a letter, a fraction, a part.
+"""What a value is: an integer, a letter, a fraction, a part; and how fractions are reckoned with.
 
 Any value may be asked about. What it is is found by its class alone before
 anything else is done with it, for an object may answer == and len as it likes.
@@ -6,9 +6,11 @@ anything else is done with it, for an object may answer == and len as it likes.
 
 from math import gcd
 
-from biddingmoves.limits import MOST_BOTTOM
+from biddingmoves.errors import InvalidNumber, InvalidShare, InvalidSide
+from biddingmoves.limits import MOST_BOTTOM, MOST_MOVES
 
 _DIGITS = "0123456789"
+_SIDES = ("first", "second")
 
 # Python itself refuses to read numbers that are a little longer than this.
 _MOST_DIGITS = 4000
@@ -32,6 +34,11 @@ def is_row(value):
 def is_letter(value):
     """Whether it is a letter from a to z."""
     return is_string(value) and len(value) == 1 and "a" <= value <= "z"
+
+
+def is_one_of(value, words):
+    """Whether it is one of these strings."""
+    return is_string(value) and value in words
 
 
 def is_fraction(value):
@@ -74,3 +81,37 @@ def pair_in(word):
     if not is_numeral(top) or not is_numeral(bottom):
         return None
     return int(top), int(bottom)
+
+
+def lowest(top, bottom):
+    """The fraction top / bottom in lowest terms; the bottom is from 1 on."""
+    shared = gcd(top, bottom)
+    return top // shared, bottom // shared
+
+
+def is_below(one, other):
+    """Whether the one fraction is less than the other one."""
+    return one[0] * other[1] < other[0] * one[1]
+
+
+def difference(one, other):
+    """The one fraction less the other one."""
+    return lowest(one[0] * other[1] - other[0] * one[1], one[1] * other[1])
+
+
+def check_share(share):
+    """Raises the error of a wrong share."""
+    if not is_share(share):
+        raise InvalidShare(share)
+
+
+def check_side(side):
+    """Raises the error of a wrong side."""
+    if not is_one_of(side, _SIDES):
+        raise InvalidSide(side)
+
+
+def check_moves(moves):
+    """Raises the error of a wrong number of moves."""
+    if not is_integer(moves) or not 0 <= moves <= MOST_MOVES:
+        raise InvalidNumber(moves)

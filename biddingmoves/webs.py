@@ -1,9 +1,9 @@
 """Webs: places with arrows between them, and ends with numbers."""
 
 from biddingmoves.errors import (
-    AtAnEnd, InvalidMove, InvalidPart, InvalidRows, InvalidText, NotAnEnd, NoWay, UnknownPlace,
+    AtAnEnd, InvalidMove, InvalidPart, InvalidRows, InvalidText, NotAnEnd, NotAWeb, NoWay, UnknownPlace,
 )
-from biddingmoves.kinds import is_ascending, is_letter, is_part, is_row, is_string, pair_in
+from biddingmoves.kinds import is_ascending, is_letter, is_one_of, is_part, is_row, is_string, pair_in
 from biddingmoves.limits import MOST_PLACES
 
 
@@ -83,6 +83,12 @@ def turned_what(what):
     return bottom - top, bottom
 
 
+def check_arrow(arrows, to):
+    """Raises the error of what is no place where these arrows lead."""
+    if not is_one_of(to, arrows):
+        raise InvalidMove(to)
+
+
 class Web:
     """A web: it never changes."""
 
@@ -135,7 +141,7 @@ class Web:
     def with_arrow(self, place, to):
         """The web with one arrow more."""
         arrows = self.arrows(place)
-        if not self._has(to):
+        if not is_one_of(to, self.places):
             raise InvalidMove(to)
         if arrows == ():
             raise AtAnEnd()
@@ -146,8 +152,7 @@ class Web:
     def without_arrow(self, place, to):
         """The web with one arrow less."""
         arrows = self.arrows(place)
-        if not is_letter(to) or to not in arrows:
-            raise InvalidMove(to)
+        check_arrow(arrows, to)
         rows = replaced(self._rows, place, tuple([spot for spot in arrows if spot != to]))
         stuck = first_stuck(rows)
         if stuck is not None:
@@ -167,11 +172,8 @@ class Web:
         """The web in which each end's number is 1 less what it was."""
         return Web(tuple([(place, turned_what(what)) for place, what in self._rows]))
 
-    def _has(self, value):
-        return is_letter(value) and value in self.places
-
     def _what(self, place):
-        if not self._has(place):
+        if not is_one_of(place, self.places):
             raise UnknownPlace(place)
         return dict(self._rows)[place]
 
@@ -180,3 +182,16 @@ class Web:
 
     def __str__(self):
         return "\n".join([line_of(place, what) for place, what in self._rows])
+
+
+def check_web(web):
+    """Raises the error of what is no web."""
+    if type(web) is not Web:
+        raise NotAWeb(web)
+
+
+def check_place(web, place):
+    """Raises the error of what is no web, or else of what is no place of it."""
+    check_web(web)
+    if not is_one_of(place, web.places):
+        raise UnknownPlace(place)

@@ -63,16 +63,21 @@ def odd_values():
     ]
 
 
-def is_reference_part(what):
-    """Written apart from the program: whether it is a part."""
+def is_reference_share(what):
+    """Written apart from the program: whether it is a fraction from 0 to 1."""
     if type(what) is not tuple or [type(n) for n in what] != [int, int]:
         return False
     n, d = what
-    if not (1 <= d <= 10 ** 12 and 0 <= n <= d):
+    if not 0 <= n <= d or d == 0:
         return False
     while n:
         n, d = d % n, n
     return d == 1
+
+
+def is_reference_part(what):
+    """Written apart from the program: whether it is a part."""
+    return is_reference_share(what) and what[1] <= 10 ** 12
 
 
 def leads_to_end(what, place):

@@ -113,6 +113,23 @@ class TestLanguage(unittest.TestCase):
             if name not in DOUBLE:
                 self.assertFalse(hasattr(builtins, name), f"{path.name}:{node.lineno}: {name}")
 
+    def test_imports_and_classes_keep_their_names(self):
+        for path, tree in TREES:
+            kept = {alias.name for node in ast.walk(tree) if isinstance(node, ast.ImportFrom) for alias in node.names}
+            kept |= {node.name for node in tree.body if isinstance(node, ast.ClassDef)}
+            for node in ast.walk(tree):
+                if isinstance(node, ast.arg):
+                    self.assertNotIn(node.arg, kept, f"{path.name}:{node.lineno}")
+                elif isinstance(node, ast.Name) and not isinstance(node.ctx, ast.Load):
+                    self.assertNotIn(node.id, kept, f"{path.name}:{node.lineno}")
+
+    def test_library_is_only_called(self):
+        names = set().union(*LIBRARY.values())
+        called = [node.func for _, node in nodes(ast.Call)]
+        for path, node in nodes(ast.Name):
+            if node.id in names:
+                self.assertTrue(any(node is call for call in called), f"{path.name}:{node.lineno}")
+
     def test_calls(self):
         own = {node.name for _, node in nodes(ast.FunctionDef)}
         for path, node in nodes(ast.Call):

@@ -18,17 +18,17 @@ _MOST_DIGITS = 4000
 
 def is_integer(value):
     """Whether it is an integer; True and False are none."""
-    return type(value) == int
+    return type(value) is int
 
 
 def is_string(value):
     """Whether it is a string."""
-    return type(value) == str
+    return type(value) is str
 
 
 def is_row(value):
     """Whether it is a tuple; a list is not taken for one."""
-    return type(value) == tuple
+    return type(value) is tuple
 
 
 def is_letter(value):
@@ -39,6 +39,13 @@ def is_letter(value):
 def is_one_of(value, words):
     """Whether it is one of these strings."""
     return is_string(value) and value in words
+
+
+def has_form(value, forms):
+    """Whether it is a tuple that begins with the word and has the length of one of these pairs."""
+    if not is_row(value) or len(value) == 0 or not is_string(value[0]):
+        return False
+    return (value[0], len(value)) in forms
 
 
 def is_fraction(value):
@@ -59,6 +66,11 @@ def is_share(value):
 def is_part(value):
     """Whether it is a part."""
     return is_share(value) and value[1] <= MOST_BOTTOM
+
+
+def is_moves(value):
+    """Whether it is a number of moves."""
+    return is_integer(value) and 0 <= value <= MOST_MOVES
 
 
 def is_ascending(values):
@@ -83,6 +95,12 @@ def pair_in(word):
     return int(top), int(bottom)
 
 
+def written(fraction):
+    """The fraction as n/d."""
+    top, bottom = fraction
+    return f"{top}/{bottom}"
+
+
 def lowest(top, bottom):
     """The fraction top / bottom in lowest terms; the bottom is from 1 on."""
     shared = gcd(top, bottom)
@@ -99,6 +117,11 @@ def difference(one, other):
     return lowest(one[0] * other[1] - other[0] * one[1], one[1] * other[1])
 
 
+def total(one, other):
+    """Both fractions together."""
+    return lowest(one[0] * other[1] + other[0] * one[1], one[1] * other[1])
+
+
 def check_share(share):
     """Raises the error of a wrong share."""
     if not is_share(share):
@@ -113,5 +136,5 @@ def check_side(side):
 
 def check_moves(moves):
     """Raises the error of a wrong number of moves."""
-    if not is_integer(moves) or not 0 <= moves <= MOST_MOVES:
+    if not is_moves(moves):
         raise InvalidNumber(moves)

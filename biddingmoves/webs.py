@@ -3,7 +3,7 @@
 from biddingmoves.errors import (
     AtAnEnd, InvalidMove, InvalidPart, InvalidRows, InvalidText, NotAnEnd, NotAWeb, NoWay, UnknownPlace,
 )
-from biddingmoves.kinds import is_ascending, is_letter, is_one_of, is_part, is_row, is_string, pair_in
+from biddingmoves.kinds import is_ascending, is_letter, is_one_of, is_part, is_row, is_string, pair_in, written
 from biddingmoves.limits import MOST_PLACES
 
 
@@ -56,8 +56,7 @@ def are_rows(rows):
 def line_of(place, what):
     """The line of the text for one place."""
     if is_part(what):
-        top, bottom = what
-        return f"{place} = {top}/{bottom}"
+        return f"{place} = {written(what)}"
     return f"{place}: " + " ".join(what)
 
 

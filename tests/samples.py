@@ -42,6 +42,19 @@ class Posing:
         return self.kind
 
 
+class AgreeingClass(type):
+    """A class of classes that are equal to everything."""
+
+    def __eq__(cls, other):
+        return True
+
+    __hash__ = type.__hash__
+
+
+class Agreed(metaclass=AgreeingClass):
+    """Of a class that is equal to each other one."""
+
+
 def nested(kind, depth):
     value = kind()
     for _ in range(depth - 1):
@@ -59,13 +72,13 @@ def odd_values():
         (1,), (1, 2, 3), ("1", "2"), (None, 1), ((1, 2), (1, 2)), (1, 10 ** 12 + 1),
         nested(tuple, 10), nested(list, 10), list(LINE_ROWS), int, tuple, str, Web, len, lambda web: web,
         object(), Agree(), Refuse(), Posing(str), Posing(tuple), Posing(int), Posing(Web), (Agree(), Agree()),
-        (Refuse(), Refuse()), (Posing(int), Posing(int)), Web(LINE_ROWS), InvalidRows(1), NotAnEnd(), ValueError("a"),
+        (Refuse(), Refuse()), (Posing(int), Posing(int)), Agreed, Agreed(), (Agreed(), Agreed()), Web(LINE_ROWS), InvalidRows(1), NotAnEnd(), ValueError("a"),
     ]
 
 
 def is_reference_share(what):
     """Written apart from the program: whether it is a fraction from 0 to 1."""
-    if type(what) is not tuple or [type(n) for n in what] != [int, int]:
+    if type(what) is not tuple or len(what) != 2 or any(type(n) is not int for n in what):
         return False
     n, d = what
     if not 0 <= n <= d or d == 0:

@@ -4,7 +4,7 @@ from biddingmoves.errors import InvalidNumber, NotAnEnd, NoWay
 from biddingmoves.kinds import check_share, difference, is_below, is_integer, lowest
 from biddingmoves.limits import MOST_BITS
 from biddingmoves.needs import need, needs
-from biddingmoves.webs import check_place, check_web
+from biddingmoves.webs import check_place
 
 
 def gain_of_arrow(web, asked, place, to):
@@ -23,7 +23,6 @@ def free_pairs(web):
 
 def helping(web, asked):
     """The pairs whose arrow makes the need of `asked` the least one that one arrow more can make it."""
-    check_place(web, asked)
     least = need(web, asked)
     pairs = []
     for place, to in free_pairs(web):
@@ -48,7 +47,6 @@ def is_needless(web, place, to, wanted):
 
 def needless(web):
     """The pairs of the arrows without which, each alone, all needs are the same."""
-    check_web(web)
     wanted = needs(web)
     arrows = [(place, to) for place in web.places for to in web.arrows(place)]
     return tuple([(place, to) for place, to in arrows if is_needless(web, place, to, wanted)])
